@@ -60,6 +60,89 @@ func TestImports(t *testing.T) {
 	}
 }
 
+// calls tells what the document's map lets each layer call, beside api.
+func calls() map[string]string {
+	return map[string]string{
+		"num":     "api",
+		"real":    "api",
+		"civil":   "num",
+		"stamp":   "num civil",
+		"dayrule": "civil",
+		"monthly": "num civil",
+		"week":    "num civil stamp",
+		"julian":  "real",
+		"lon":     "real",
+		"span":    "num",
+		"spans":   "num span",
+		"mean":    "real span",
+		"lines":   "api",
+		"fields":  "api",
+		"words":   "api",
+		"amount":  "num",
+		"year":    "num words",
+		"dayspec": "num dayrule words",
+		"clock":   "amount",
+		"format":  "api",
+		"rule":    "dayrule words amount year dayspec clock format",
+		"era":     "num dayrule words amount dayspec clock format rule",
+		"link":    "rule",
+		"read":    "lines fields words rule era link",
+		"occur":   "num stamp dayrule span rule",
+		"chain":   "num occur",
+		"apart":   "civil dayrule rule",
+		"until":   "dayrule era occur chain",
+		"book":    "api",
+		"check":   "apart until book",
+		"render":  "fields rule era link until",
+		"load":    "read check render",
+		"force":   "format era occur chain",
+		"point":   "until force",
+		"change":  "span until force point",
+		"info":    "num span point change",
+		"window":  "civil span spans mean info",
+		"store":   "span",
+		"seam":    "span spans",
+		"lazy":    "load info window store",
+		"local":   "span info",
+		"policy":  "num point local",
+		"zoned":   "stamp monthly format point info local policy",
+		"query":   "num stamp lines fields words rule",
+		"answer":  "num stamp fields",
+		"engine":  "num book load change window lazy local policy zoned query answer",
+		"model":   "num book load change info window local policy zoned query answer",
+		"meet":    "span mean info window",
+		"posix":   "num amount apart",
+		"tail":    "civil stamp format until force point posix",
+		"delta":   "book",
+		"patch":   "api",
+		"leap":    "stamp lines fields",
+		"recur":   "num stamp monthly span policy",
+		"hours":   "civil stamp span spans window policy",
+		"common":  "span spans mean hours",
+	}
+}
+
+func TestCalls(t *testing.T) {
+	for _, path := range sources(t) {
+		layer := filepath.Base(filepath.Dir(path))
+		may, ok := calls()[layer]
+		if !ok {
+			continue
+		}
+		file, err := parser.ParseFile(token.NewFileSet(), path, nil, parser.ImportsOnly)
+		if err != nil {
+			t.Fatal(err)
+		}
+		for _, spec := range file.Imports {
+			name, _ := strconv.Unquote(spec.Path.Value)
+			below, own := strings.CutPrefix(name, "noontide/")
+			if _, isLayer := calls()[below]; own && isLayer && !strings.Contains(" "+may+" ", " "+below+" ") {
+				t.Errorf("%s calls %s", path, below)
+			}
+		}
+	}
+}
+
 func TestLayout(t *testing.T) {
 	for _, path := range sources(t) {
 		text, err := os.ReadFile(path)
