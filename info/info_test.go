@@ -7,7 +7,6 @@ import (
 	"testing"
 
 	"noontide/api"
-	"noontide/change"
 	"noontide/info"
 	"noontide/load"
 	"noontide/point"
@@ -20,21 +19,6 @@ const (
 	maxT = 971890963199
 	far  = 64800 // how far from universal time a wall clock may be
 )
-
-// all are the infos of a zone, by the words: changes are their ends.
-func all(table api.Table, zone int) []api.Info {
-	ends := []int64{minT}
-	for c, ok := change.Next(table, zone, minT); ok; c, ok = change.Next(table, zone, c) {
-		ends = append(ends, c)
-	}
-	ends = append(ends, maxT+1)
-	var l []api.Info
-	for i := range ends[1:] {
-		v, _ := point.Value(table, zone, ends[i])
-		l = append(l, api.Info{Span: api.Span{From: ends[i], To: ends[i+1]}, Value: v})
-	}
-	return l
-}
 
 // anyTimes are the first and the last second of each info, and some between.
 func anyTimes(random *rand.Rand, l []api.Info) []int64 {
@@ -68,7 +52,7 @@ func TestAt(t *testing.T) {
 	for range 1500 {
 		table := sample.Table(random.Intn)
 		for zone := range table.Zones {
-			l := all(table, zone)
+			l := sample.Infos(table, zone)
 			for _, at := range anyTimes(random, l) {
 				compareAt(t, table, zone, at, has(l, at), api.OK)
 			}
@@ -136,7 +120,7 @@ func TestBehindAndAhead(t *testing.T) {
 	for range 800 {
 		table := sample.Table(random.Intn)
 		for zone := range table.Zones {
-			l := all(table, zone)
+			l := sample.Infos(table, zone)
 			for place, i := range l {
 				var ahead, behind api.Info
 				if place > 0 {
@@ -196,7 +180,7 @@ func TestOneValue(t *testing.T) {
 		table := sample.Table(random.Intn)
 		for zone := range table.Zones {
 			at := minT + random.Int63n(maxT+1-minT)
-			if l := all(table, zone); random.Intn(4) > 0 {
+			if l := sample.Infos(table, zone); random.Intn(4) > 0 {
 				at = l[random.Intn(len(l))].Span.From + random.Int63n(hour)
 			}
 			i, why := info.At(table, zone, at)

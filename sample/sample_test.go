@@ -10,6 +10,7 @@ import (
 	"noontide/chain"
 	"noontide/load"
 	"noontide/occur"
+	"noontide/point"
 	"noontide/sample"
 	"noontide/until"
 )
@@ -78,4 +79,48 @@ func changes(rules []api.Rule, e api.Era) map[int64]bool {
 		l[at] = true
 	}
 	return l
+}
+
+// Infos have all seconds, each once, and one that begins where another one ends is not like that.
+func TestInfos(t *testing.T) {
+	random := rand.New(rand.NewSource(10))
+	for range 300 {
+		table := sample.Table(random.Intn)
+		for zone := range table.Zones {
+			l := sample.Infos(table, zone)
+			next := int64(api.MinT)
+			for n, i := range l {
+				v, why := point.Value(table, zone, i.Span.To-1)
+				if i.Span.From != next || i.Span.To <= next || i.Value != v || why != api.OK || n > 0 && l[n-1].Value == v {
+					t.Fatalf("of %d in %v: %v, %d", zone, table, l, why)
+				}
+				next = i.Span.To
+			}
+			if next != api.MaxT+1 {
+				t.Fatalf("of %d in %v: %v", zone, table, l)
+			}
+		}
+	}
+}
+
+// Most of those that are to be unfit are, each of them has one zone, and each is made anew.
+func TestUnfit(t *testing.T) {
+	fit := 0
+	for n, table := range sample.Unfit() {
+		if len(table.Zones) != 1 {
+			t.Errorf("%v", table)
+		}
+		if load.Table(table) == api.OK {
+			fit++
+		}
+		for i := range table.Rules {
+			table.Rules[i].Name = "changed"
+		}
+		if again := sample.Unfit()[n]; len(again.Rules) > 0 && again.Rules[0].Name == "changed" {
+			t.Error(n)
+		}
+	}
+	if n := len(sample.Unfit()); fit*4 > n || n < 50 {
+		t.Errorf("%d of %d fit", fit, n)
+	}
 }

@@ -9,7 +9,6 @@ import (
 	"time"
 
 	"noontide/api"
-	"noontide/change"
 	"noontide/load"
 	"noontide/point"
 	"noontide/sample"
@@ -23,21 +22,6 @@ const (
 	maxT = 971890963199
 	wide = 4000
 )
-
-// all are the infos of a zone, by the words: changes are their ends.
-func all(table api.Table, zone int) []api.Info {
-	ends := []int64{minT}
-	for c, ok := change.Next(table, zone, minT); ok; c, ok = change.Next(table, zone, c) {
-		ends = append(ends, c)
-	}
-	ends = append(ends, maxT+1)
-	var l []api.Info
-	for i := range ends[1:] {
-		v, _ := point.Value(table, zone, ends[i])
-		l = append(l, api.Info{Span: api.Span{From: ends[i], To: ends[i+1]}, Value: v})
-	}
-	return l
-}
 
 // in are those of l that have a second of a span.
 func in(l []api.Info, s api.Span) []api.Info {
@@ -82,7 +66,7 @@ func TestIn(t *testing.T) {
 		for _, zone := range []int{math.MinInt, -1, len(table.Zones), math.MaxInt, 0, random.Intn(len(table.Zones))} {
 			var l []api.Info
 			if zone >= 0 && zone < len(table.Zones) {
-				l = all(table, zone)
+				l = sample.Infos(table, zone)
 			}
 			times := seconds(l)
 			for range 40 {
@@ -132,7 +116,7 @@ func TestInOneSecond(t *testing.T) {
 	if why := load.Table(table); why != api.OK {
 		t.Fatal(why)
 	}
-	l := all(table, 0)
+	l := sample.Infos(table, 0)
 	if len(l) != 3 || l[0].Span.To != minT+1 || l[2].Span.From != maxT {
 		t.Fatal(l)
 	}
@@ -162,7 +146,7 @@ func TestAll(t *testing.T) {
 	for range 500 {
 		table := sample.Table(random.Intn)
 		for zone := range table.Zones {
-			times := seconds(all(table, zone))
+			times := seconds(sample.Infos(table, zone))
 			for range 20 {
 				s := api.Span{From: times[random.Intn(len(times))], To: times[random.Intn(len(times))]}
 				if l, why := window.In(table, zone, s, math.MaxInt); why == api.OK {
@@ -300,7 +284,7 @@ func TestMeanAndSaving(t *testing.T) {
 		table := sample.Table(random.Intn)
 		kept := clone(table)
 		for zone := range table.Zones {
-			l := all(table, zone)
+			l := sample.Infos(table, zone)
 			for range 10 {
 				from, to := someYears(random, l)
 				s, why := window.Years(from, to)
@@ -424,7 +408,7 @@ func TestKnown(t *testing.T) {
 
 // Promise 37.3: as many years as there may be.
 func TestWide(t *testing.T) {
-	l := all(sample.Two(), 1)
+	l := sample.Infos(sample.Two(), 1)
 	s := api.Span{From: begin(2007), To: begin(6007)}
 	if m, why := window.Mean(sample.Two(), 1, 2007, 6006); m != meanOf(l, s) || why != api.OK {
 		t.Error(m, why)
@@ -436,36 +420,20 @@ func TestWide(t *testing.T) {
 
 // Of a table that does not fit there is an answer, whatever it is; but of a zone that is not there, in a span that may not be, or of years that may not be, there is none.
 func TestTablesThatDoNotFit(t *testing.T) {
-	last, first, late, rules := api.Era{Format: "X"}, api.Era{Format: "Y", Until: sample.Beginning(1950)}, sample.East(), sample.East()
-	late.Until, rules.Format = sample.Beginning(2030), "a/b/c"
-	zones := [][]api.Era{
-		nil, {}, {{}}, {first}, {last, last}, {first, first}, {{}, last}, {first, {}, last}, {last, first, first, {}, first}, {late}, {late, first}, {late, first, late}, {late, late},
-		{late, first, last}, {late, first, late, last}, {late, first, last, first, last}, {{Kind: api.RulesNamed, Rules: "none", Format: "X"}}, {rules}, {first, rules}, {rules, late, first, last},
-	}
-	few, crowded := sample.US(), append(sample.US(), sample.US()...)
-	for i := range few {
-		few[i].To = 2100
-	}
-	for i := range crowded {
-		crowded[i].To, crowded[i].Month = 2010+i, 3
-	}
-	for _, eras := range zones {
-		for _, l := range [][]api.Rule{nil, few, crowded} {
-			table := api.Table{Rules: l, Zones: []api.Zone{{Eras: eras}}}
-			for _, from := range append(sample.Far(), math.MinInt64, -631152000, 1893456000) {
-				for _, most := range []int{1, 100, math.MaxInt} {
-					if l, why := window.In(table, 0, api.Span{From: from, To: math.MaxInt64}, most); len(l) > most || why != api.OK && len(l) > 0 {
-						t.Errorf("from %d: %v, %d", from, l, why)
-					}
+	for _, table := range sample.Unfit() {
+		for _, from := range append(sample.Far(), math.MinInt64, -631152000, 1893456000) {
+			for _, most := range []int{1, 100, math.MaxInt} {
+				if l, why := window.In(table, 0, api.Span{From: from, To: math.MaxInt64}, most); len(l) > most || why != api.OK && len(l) > 0 {
+					t.Errorf("from %d: %v, %d", from, l, why)
 				}
 			}
-			window.Mean(table, 0, 1900, 2100)
-			window.Saving(table, 0, 1900, 2100)
-			compareIn(t, table, 1, nil, api.Span{To: 9}, 9)
-			compareIn(t, table, 0, nil, api.Span{}, 9)
-			compareWrong(t, table, 1, 5, 4, api.ErrNone)
-			compareWrong(t, table, 0, 5, 4, api.ErrRange)
 		}
+		window.Mean(table, 0, 1900, 2100)
+		window.Saving(table, 0, 1900, 2100)
+		compareIn(t, table, 1, nil, api.Span{To: 9}, 9)
+		compareIn(t, table, 0, nil, api.Span{}, 9)
+		compareWrong(t, table, 1, 5, 4, api.ErrNone)
+		compareWrong(t, table, 0, 5, 4, api.ErrRange)
 	}
 }
 
