@@ -6,11 +6,14 @@ import (
 	"math/rand"
 	"reflect"
 	"slices"
+	"strconv"
+	"strings"
 	"testing"
 
 	"noontide/api"
 	"noontide/info"
 	"noontide/lazy"
+	"noontide/load"
 	"noontide/sample"
 	"noontide/seam"
 	"noontide/window"
@@ -406,6 +409,45 @@ func TestNothingShared(t *testing.T) {
 		if kept := z.Kept(zone); !slices.Equal(kept, []api.Info{want}) {
 			t.Error(kept)
 		}
+	}
+}
+
+// Promise 40.1: of a table that was taken already a lazy one is made, even if what is written of it is too long; it is as if New had made it.
+func TestTaken(t *testing.T) {
+	var src strings.Builder
+	for n := 0; src.Len() < api.MaxSource-5000; n++ {
+		src.WriteString("Z A" + strconv.Itoa(n) + " 1 - X 1\n")
+		for year := 2; year < api.MaxEras; year++ {
+			src.WriteString("1 - X " + strconv.Itoa(year) + "\n")
+		}
+		src.WriteString("2 - X\n")
+	}
+	table, fault := load.Source(src.String())
+	if z, why := lazy.New(table, 1); fault.Err != api.OK || z != nil || why != api.ErrLong {
+		t.Fatal(fault, why)
+	}
+	for _, given := range []api.Table{table, full(), {}} {
+		z, p := lazy.Taken(given, 2), &plain{table: given, room: 2, kept: map[int][]api.Info{}}
+		for range 2 {
+			for _, at := range []int64{0, minT, maxT, minT} {
+				want, whyNot := p.info(0, at)
+				if i, why := z.Info(0, at); i != want || why != whyNot {
+					t.Errorf("Info at %d: %v, %d; not %v", at, i, why, want)
+				}
+				if !slices.Equal(z.Kept(0), p.list(0)) {
+					t.Errorf("Kept: %v; not %v", z.Kept(0), p.list(0))
+				}
+			}
+		}
+		if !reflect.DeepEqual(z.Table(), given) {
+			t.Error("it is another table")
+		}
+	}
+	given := full()
+	z := lazy.Taken(given, 2)
+	spoil(given)
+	if table := z.Table(); !reflect.DeepEqual(table, full()) {
+		t.Error(table)
 	}
 }
 
