@@ -276,6 +276,48 @@ func TestFind(t *testing.T) {
 	}
 }
 
+// Near tells the same in any order, and asks little of what it was told already; an error is not kept.
+func TestNear(t *testing.T) {
+	random := rand.New(rand.NewSource(416))
+	for range 300 {
+		l := sample.Infos(sample.Table(random.Intn), 0)
+		asked := 0
+		find := func(at int64) (api.Info, api.Errno) {
+			asked++
+			if i := has(l, at); i != (api.Info{}) {
+				return i, api.OK
+			}
+			return api.Info{}, api.ErrRange
+		}
+		near := local.Near(find)
+		times := append(anyTimes(random, l), 0, 0, minT-1, minT-1)
+		random.Shuffle(len(times), func(a, b int) { times[a], times[b] = times[b], times[a] })
+		for _, at := range times {
+			want, whyNot := find(at)
+			if i, why := near(at); i != want || why != whyNot {
+				t.Fatalf("of %v at %d: %v, %d; not %v, %d", l, at, i, why, want, whyNot)
+			}
+		}
+		asked = 0
+		near = local.Near(find)
+		for n := range 4 {
+			near(l[(len(l)-1)*n/3].Span.From)
+		}
+		once := asked
+		for n := range 4 {
+			near(l[(len(l)-1)*n/3].Span.To - 1)
+		}
+		if asked != once {
+			t.Fatalf("of four infos that were found last it asks %d times more", asked-once)
+		}
+		near(maxT + 1)
+		near(maxT + 1)
+		if asked != once+2 {
+			t.Fatalf("it asks %d times for what is not there", asked-once)
+		}
+	}
+}
+
 // Whatever infos are found, there is an answer: such as go round, or on and on, in which a local time has many seconds, or behind which there are none.
 func TestWrongFinds(t *testing.T) {
 	still := func(at int64) (api.Info, api.Errno) { return api.Info{Span: api.Span{From: 5, To: 9}}, api.OK }

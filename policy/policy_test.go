@@ -3,6 +3,7 @@ package policy_test
 import (
 	"math"
 	"math/rand"
+	"slices"
 	"testing"
 
 	"noontide/api"
@@ -316,6 +317,29 @@ func TestToBy(t *testing.T) {
 		t.Error(at, why)
 	}
 	if at, why := policy.ToBy(none, math.MaxInt64, 0); at != 0 || why != api.ErrForm {
+		t.Error(at, why)
+	}
+}
+
+// What is told of one local time behind the other is what To tells, whether they rise or not.
+func TestMeaning(t *testing.T) {
+	random := rand.New(rand.NewSource(425))
+	for range 60 {
+		table := sample.Table(random.Intn)
+		zone := random.Intn(len(table.Zones))
+		times := anyTimes(random, sample.Infos(table, zone))
+		if random.Intn(2) == 0 {
+			slices.Sort(times)
+		}
+		for _, how := range policies() {
+			meant := policy.Meaning(table, zone, how)
+			for _, l := range times {
+				at, why := meant(l)
+				compareTo(t, table, zone, l, how, said{at, why})
+			}
+		}
+	}
+	if at, why := policy.Meaning(sample.Two(), 2, api.PolicyEarly)(0); at != 0 || why != api.ErrNone {
 		t.Error(at, why)
 	}
 }
