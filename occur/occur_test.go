@@ -298,6 +298,44 @@ func TestNextAndPrev(t *testing.T) {
 	}
 }
 
+// Of some places alone it is as if the others' rules were not there; the other rules, and those that may not be, are not asked for.
+func TestOfSomePlaces(t *testing.T) {
+	random := rand.New(rand.NewSource(256))
+	for range 1500 {
+		l := anyRules(random, "EU")
+		some := map[int]bool{}
+		for place := range l {
+			some[place] = random.Intn(2) == 0
+		}
+		asked := func(place int) bool {
+			if l[place].Name != "EU" || !rule.Right(l[place]) {
+				t.Fatalf("asked for %d in %v", place, l)
+			}
+			return some[place]
+		}
+		of := slices.DeleteFunc(all(l, "EU"), func(o api.Occur) bool { return !some[o.Rule] })
+		for _, from := range around(of) {
+			var prev, next api.Occur
+			for _, o := range of {
+				if isAhead(o, from) {
+					prev = o
+				}
+			}
+			for _, o := range slices.Backward(of) {
+				if isAhead(from, o) {
+					next = o
+				}
+			}
+			if o, ok := occur.PrevOf(l, "EU", from, asked); o != prev || ok != (prev != api.Occur{}) {
+				t.Fatalf("PrevOf of %v in %v: %v, %t; not %v", from, l, o, ok, prev)
+			}
+			if o, ok := occur.NextOf(l, "EU", from, asked); o != next || ok != (next != api.Occur{}) {
+				t.Fatalf("NextOf of %v in %v: %v, %t; not %v", from, l, o, ok, next)
+			}
+		}
+	}
+}
+
 // Promise 25.2: rules of all years, of the first and last days of years, of each kind.
 func TestAllYears(t *testing.T) {
 	full := func(month int, on api.On, sec int64) api.Rule {
